@@ -8,7 +8,7 @@ import (
 	"periscope/count"
 )
 
-// P3.2, P21.2: what is counted is at most MaxCount.
+// P3.2, P21.2, P25.2: what is counted is at most MaxCount.
 func TestCount(t *testing.T) {
 	for _, x := range []struct {
 		adds []int
